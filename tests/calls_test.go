@@ -12,7 +12,8 @@ import (
 	"loop.example/g00787/impl"
 )
 
-// outcome has room for the results of any function of chapters 1 and 2.
+// outcome has room for the results of any function of chapters 1 to 3; a list
+// of texts stands in it as one text.
 type outcome struct {
 	number  int
 	text    string
@@ -43,8 +44,8 @@ func someTexts() []string {
 	return []string{"", "-", "--", "0", "-0", "7", "007", "-FF", "ff", "+1", "a_9", "9a", "ok", "same", "é", "\x00", "\xff\xfe", strings.Repeat("1", 32), strings.Repeat("1", 33), strings.Repeat("z", impl.MaxText), strings.Repeat("1", impl.MaxText+1)}
 }
 
-func stageOneCalls() []call {
-	return slices.Concat(callsOfNumbers(), callsOfTexts(), callsOfTwoCells())
+func allCalls() []call {
+	return slices.Concat(callsOfNumbers(), callsOfTexts(), callsOfTwoCells(), callsOfLines())
 }
 
 func callsOfNumbers() []call {
@@ -101,8 +102,39 @@ func callsOfTwoCells() []call {
 	return list
 }
 
+func someLines() []string {
+	return append(someTexts(), " ", "(", ")", "\\", "a b", "A B", "dup ( a b) DROP", "dup ( a", "dup \\ ( a", "\xe2\x80 (\xff )", "twelve-bytes", "Twelve-Bytes", "thirteenbytes",
+		strings.Repeat("x ", maxLine/2), strings.Repeat("( ", maxLine/2), strings.Repeat("x ", maxLine/2+1), strings.Repeat("( ", maxLine/2+1), strings.Repeat("(", impl.MaxText+1), strings.Repeat(" ", 4*impl.MaxText))
+}
+
+func callsOfLines() []call {
+	var list []call
+	for i, line := range someLines() {
+		list = append(list,
+			call{fmt.Sprint("LineWords ", i), func() outcome {
+				words, code := impl.LineWords(line)
+				return outcome{text: textOf(words), code: code}
+			}},
+			call{fmt.Sprint("UpperOf ", i), func() outcome { return outcome{text: impl.UpperOf(line)} }},
+			call{fmt.Sprint("WordOK ", i), func() outcome { return outcome{yes: impl.WordOK(line)} }},
+		)
+		for k, other := range someLines() {
+			list = append(list, call{fmt.Sprint("SameWord ", i, k), func() outcome { return outcome{yes: impl.SameWord(line, other)} }})
+		}
+	}
+	return list
+}
+
+// textOf makes no difference between an empty list and nil.
+func textOf(list []string) string {
+	if len(list) == 0 {
+		return ""
+	}
+	return fmt.Sprintf("%q", list)
+}
+
 func TestNoCallPanics(t *testing.T) {
-	for _, c := range stageOneCalls() {
+	for _, c := range allCalls() {
 		if o := c.outcome(); o.problem != "" {
 			t.Errorf("%s panics: %s", c.name, o.problem)
 		}
@@ -110,7 +142,7 @@ func TestNoCallPanics(t *testing.T) {
 }
 
 func TestZeroValuesBesideCodes(t *testing.T) {
-	for _, c := range stageOneCalls() {
+	for _, c := range allCalls() {
 		if o := c.outcome(); o.code != impl.OK && (o.number != 0 || o.text != "" || o.yes) {
 			t.Errorf("%s has results beside the code %d", c.name, o.code)
 		}
@@ -118,7 +150,7 @@ func TestZeroValuesBesideCodes(t *testing.T) {
 }
 
 func TestEqualArgumentsYieldEqualResults(t *testing.T) {
-	list := stageOneCalls()
+	list := allCalls()
 	first := make([]outcome, len(list))
 	for i, c := range list {
 		first[i] = c.outcome()
