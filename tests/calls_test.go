@@ -12,10 +12,11 @@ import (
 	"loop.example/g00787/impl"
 )
 
-// outcome has room for the results of any function of chapters 1 to 3; a list
-// of texts stands in it as one text.
+// outcome has room for the results of any function of chapters 1 to 4; a list
+// of texts stands in it as one text, and so does data.
 type outcome struct {
 	number  int
+	throw   int
 	text    string
 	yes     bool
 	code    int
@@ -45,7 +46,7 @@ func someTexts() []string {
 }
 
 func allCalls() []call {
-	return slices.Concat(callsOfNumbers(), callsOfTexts(), callsOfTwoCells(), callsOfLines())
+	return slices.Concat(callsOfNumbers(), callsOfTexts(), callsOfTwoCells(), callsOfLines(), callsOfData(), callsOfTwoData())
 }
 
 func callsOfNumbers() []call {
@@ -125,6 +126,70 @@ func callsOfLines() []call {
 	return list
 }
 
+func callsOfData() []call {
+	list := []call{{"NewData", func() outcome { return outcome{text: dataText(impl.NewData())} }}}
+	for i, d := range append(validData(), badData()...) {
+		list = append(list,
+			call{fmt.Sprint("DataOK ", i), func() outcome { return outcome{yes: impl.DataOK(d)} }},
+			call{fmt.Sprint("Pop ", i), func() outcome {
+				next, top, throw, code := impl.Pop(d)
+				return outcome{number: top, throw: throw, text: dataText(next), code: code}
+			}},
+		)
+		for _, n := range append(someNumbers(), dataBase, dataBase+1, dataBase+4, dataBase+4*maxCells) {
+			list = append(list, callsOfDataAndNumber(i, d, n)...)
+		}
+		for k, text := range someTexts() {
+			list = append(list, call{fmt.Sprint("Say ", i, k), func() outcome {
+				next, throw, code := impl.Say(d, text)
+				return outcome{throw: throw, text: dataText(next), code: code}
+			}})
+		}
+	}
+	return list
+}
+
+func callsOfDataAndNumber(i int, d impl.Data, n int) []call {
+	changes := []struct {
+		name string
+		run  func() (impl.Data, int, int)
+	}{
+		{"Push", func() (impl.Data, int, int) { return impl.Push(d, n) }},
+		{"Store", func() (impl.Data, int, int) { return impl.Store(d, n, n) }},
+		{"Store at the base", func() (impl.Data, int, int) { return impl.Store(d, dataBase, n) }},
+		{"AllotCells", func() (impl.Data, int, int) { return impl.AllotCells(d, n) }},
+	}
+	list := []call{{fmt.Sprint("Fetch ", i, n), func() outcome {
+		number, throw, code := impl.Fetch(d, n)
+		return outcome{number: number, throw: throw, code: code}
+	}}}
+	for _, c := range changes {
+		list = append(list, call{fmt.Sprint(c.name, i, n), func() outcome {
+			next, throw, code := c.run()
+			return outcome{throw: throw, text: dataText(next), code: code}
+		}})
+	}
+	return list
+}
+
+func callsOfTwoData() []call {
+	var list []call
+	for i, a := range append(validData(), badData()...) {
+		for k, b := range append(validData(), badData()...) {
+			list = append(list, call{fmt.Sprint("SameData ", i, k), func() outcome { return outcome{yes: impl.SameData(a, b)} }})
+		}
+	}
+	return list
+}
+
+// dataText is empty for zero data.
+func dataText(d impl.Data) string {
+	if isZeroData(d) {
+		return ""
+	}
+	return fmt.Sprintf("%v %v %v %d %d %q", d.Stack, d.Back, d.Cells, d.Here, d.Base, d.Out)
+}
+
 // textOf makes no difference between an empty list and nil.
 func textOf(list []string) string {
 	if len(list) == 0 {
@@ -143,7 +208,7 @@ func TestNoCallPanics(t *testing.T) {
 
 func TestZeroValuesBesideCodes(t *testing.T) {
 	for _, c := range allCalls() {
-		if o := c.outcome(); o.code != impl.OK && (o.number != 0 || o.text != "" || o.yes) {
+		if o := c.outcome(); o.code != impl.OK && (o.number != 0 || o.throw != 0 || o.text != "" || o.yes) {
 			t.Errorf("%s has results beside the code %d", c.name, o.code)
 		}
 	}
