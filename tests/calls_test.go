@@ -12,8 +12,8 @@ import (
 	"loop.example/g00787/impl"
 )
 
-// outcome has room for the results of any function of chapters 1 to 4; a list
-// of texts stands in it as one text, and so does data.
+// outcome has room for the results of any function of chapters 1 to 5; a list
+// of texts or words stands in it as one text, and so does data.
 type outcome struct {
 	number  int
 	throw   int
@@ -46,7 +46,7 @@ func someTexts() []string {
 }
 
 func allCalls() []call {
-	return slices.Concat(callsOfNumbers(), callsOfTexts(), callsOfTwoCells(), callsOfLines(), callsOfData(), callsOfTwoData())
+	return slices.Concat(callsOfNumbers(), callsOfTexts(), callsOfTwoCells(), callsOfLines(), callsOfData(), callsOfTwoData(), callsOfDicts())
 }
 
 func callsOfNumbers() []call {
@@ -182,6 +182,32 @@ func callsOfTwoData() []call {
 	return list
 }
 
+func callsOfDicts() []call {
+	list := []call{{"KernelWords", func() outcome { return outcome{text: wordsText(impl.KernelWords())} }}}
+	for i, words := range slices.Concat(validDicts(), badDicts(), [][]impl.Word{dictOf(impl.MaxList), make([]impl.Word, impl.MaxList+1)}) {
+		list = append(list,
+			call{fmt.Sprint("DictOK ", i), func() outcome { return outcome{yes: impl.DictOK(words)} }},
+			call{fmt.Sprint("KernelSame ", i), func() outcome { return outcome{yes: impl.KernelSame(words)} }},
+		)
+		for _, n := range append(someNumbers(), 56, 57, kernelSize, kernelSize+1, len(words), len(words)+1) {
+			list = append(list, call{fmt.Sprint("TokenOK ", i, n), func() outcome { return outcome{yes: impl.TokenOK(words, n)} }})
+		}
+		for k, name := range append(someTexts(), "dup", "Dup", "(LIT)", "colon", "a b") {
+			list = append(list, call{fmt.Sprint("FindWord ", i, k), func() outcome {
+				number, code := impl.FindWord(words, name)
+				return outcome{number: number, code: code}
+			}})
+		}
+		for k, x := range append(scriptWords(), badScriptWords()...) {
+			list = append(list, call{fmt.Sprint("AddWord ", i, k), func() outcome {
+				more, number, code := impl.AddWord(words, x)
+				return outcome{number: number, text: wordsText(more), code: code}
+			}})
+		}
+	}
+	return list
+}
+
 // dataText is empty for zero data.
 func dataText(d impl.Data) string {
 	if isZeroData(d) {
@@ -196,6 +222,14 @@ func textOf(list []string) string {
 		return ""
 	}
 	return fmt.Sprintf("%q", list)
+}
+
+// wordsText makes no difference between an empty list and nil.
+func wordsText(list []impl.Word) string {
+	if len(list) == 0 {
+		return ""
+	}
+	return fmt.Sprintf("%+v", list)
 }
 
 func TestNoCallPanics(t *testing.T) {
