@@ -12,7 +12,7 @@ import (
 	"loop.example/g00787/impl"
 )
 
-// outcome has room for the results of any function of chapters 1 to 5; a list
+// outcome has room for the results of any function of chapters 1 to 6; a list
 // of texts or words stands in it as one text, and so does data.
 type outcome struct {
 	number  int
@@ -46,7 +46,7 @@ func someTexts() []string {
 }
 
 func allCalls() []call {
-	return slices.Concat(callsOfNumbers(), callsOfTexts(), callsOfTwoCells(), callsOfLines(), callsOfData(), callsOfTwoData(), callsOfDicts())
+	return slices.Concat(callsOfNumbers(), callsOfTexts(), callsOfTwoCells(), callsOfLines(), callsOfData(), callsOfTwoData(), callsOfDicts(), callsOfPrims())
 }
 
 func callsOfNumbers() []call {
@@ -202,6 +202,33 @@ func callsOfDicts() []call {
 			list = append(list, call{fmt.Sprint("AddWord ", i, k), func() outcome {
 				more, number, code := impl.AddWord(words, x)
 				return outcome{number: number, text: wordsText(more), code: code}
+			}})
+		}
+	}
+	return list
+}
+
+func callsOfPrims() []call {
+	var list []call
+	for _, prim := range append(notPrims(), 1, 5, 32, primCount) {
+		list = append(list, call{fmt.Sprint("TakesOf ", prim), func() outcome {
+			number, code := impl.TakesOf(prim)
+			return outcome{number: number, code: code}
+		}})
+	}
+	for i, d := range append(validData(), badData()...) {
+		for _, prim := range append(notPrims(), primsOf(allPrims)...) {
+			for _, floor := range []int{minInt, -1, 0, len(d.Back) - 1, len(d.Back), len(d.Back) + 1, maxInt} {
+				list = append(list, call{fmt.Sprint("ApplyPrim ", i, prim, floor), func() outcome {
+					next, throw, code := impl.ApplyPrim(d, prim, floor)
+					return outcome{throw: throw, text: dataText(next), code: code}
+				}})
+			}
+		}
+		for k, prims := range [][]int{nil, notPrims(), primsOf(allPrims), primsOf("DROP DROP / CR UNLOOP R>"), {1, 53}, slices.Repeat([]int{12, 13}, impl.MaxList/2), make([]int, impl.MaxList+1)} {
+			list = append(list, call{fmt.Sprint("ApplyAll ", i, k), func() outcome {
+				next, done, throw, code := impl.ApplyAll(d, prims)
+				return outcome{number: done, throw: throw, text: dataText(next), code: code}
 			}})
 		}
 	}

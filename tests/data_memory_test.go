@@ -1,8 +1,8 @@
 package tests
 
-// Promise 1 for the data area: no function changes its argument, not even the
-// unused capacity of its slices, and no slice of a result shares memory with
-// the argument or with another slice of the result.
+// Promise 1 for the data area and the primitives: no function changes its
+// argument, not even the unused capacity of its slices, and no slice of a
+// result shares memory with the argument or with another slice of the result.
 
 import (
 	"fmt"
@@ -33,6 +33,15 @@ func dataResults(d impl.Data) map[string]impl.Data {
 	results["Pop"], _, _, _ = impl.Pop(d)
 	results["Say"], _, _ = impl.Say(d, "some text")
 	results["Say nothing"], _, _ = impl.Say(d, "")
+	for prim := range primCount + 2 {
+		for _, floor := range []int{0, 1, len(d.Back), -1} {
+			results[fmt.Sprint("ApplyPrim ", prim, floor)], _, _ = impl.ApplyPrim(d, prim, floor)
+		}
+		results[fmt.Sprint("ApplyAll ", prim)], _, _, _ = impl.ApplyAll(d, []int{prim, prim})
+	}
+	for _, names := range []string{"", "DROP DROP DUP DUP", "R> >R", "R> R> DUP >R >R", ">R >R R>", "HERE ! HERE 1- ALLOT", "DUP , HERE DUP +! @"} {
+		results["ApplyAll "+names], _, _, _ = impl.ApplyAll(d, primsOf(names))
+	}
 	return results
 }
 
@@ -104,6 +113,19 @@ func TestDataSlicesAreApart(t *testing.T) {
 	}
 	if !slices.Equal(memory, filled(maxCells)) {
 		t.Error("the argument is changed")
+	}
+}
+
+func TestPrimsAreUnchanged(t *testing.T) {
+	for _, list := range [][]int{nil, {1}, {1, 0}, primsOf(allPrims), primsOf("R> R> R> DROP"), slices.Repeat([]int{1, 2}, impl.MaxList/2), slices.Repeat([]int{1}, impl.MaxList+1)} {
+		prims, memory := withRoom(list)
+		before := slices.Clone(memory)
+		for _, d := range []impl.Data{dataOf(3, 2, 5), dataOf(maxStack, maxStack, maxCells), {}} {
+			impl.ApplyAll(d, prims)
+		}
+		if !slices.Equal(memory, before) {
+			t.Errorf("%d primitives are changed", len(list))
+		}
 	}
 }
 
