@@ -12,8 +12,8 @@ import (
 	"loop.example/g00787/impl"
 )
 
-// outcome has room for the results of any function of chapters 1 to 6; a list
-// of texts or words stands in it as one text, and so does data.
+// outcome has room for the results of any function of chapters 1 to 7; a list
+// of texts, words or cells stands in it as one text, and so do data and host.
 type outcome struct {
 	number  int
 	throw   int
@@ -46,7 +46,7 @@ func someTexts() []string {
 }
 
 func allCalls() []call {
-	return slices.Concat(callsOfNumbers(), callsOfTexts(), callsOfTwoCells(), callsOfLines(), callsOfData(), callsOfTwoData(), callsOfDicts(), callsOfPrims())
+	return slices.Concat(callsOfNumbers(), callsOfTexts(), callsOfTwoCells(), callsOfLines(), callsOfData(), callsOfTwoData(), callsOfDicts(), callsOfPrims(), callsOfHosts(), callsOfFolds())
 }
 
 func callsOfNumbers() []call {
@@ -233,6 +233,71 @@ func callsOfPrims() []call {
 		}
 	}
 	return list
+}
+
+func callsOfHosts() []call {
+	list := []call{{"NewHost", func() outcome { return outcome{text: hostText(impl.NewHost())} }}}
+	hosts := append(validHosts(), badHosts()...)
+	data := append(badData()[:3], someHostData()...)
+	for i, h := range hosts {
+		list = append(list, call{fmt.Sprint("HostOK ", i), func() outcome { return outcome{yes: impl.HostOK(h)} }})
+		for k, other := range hosts[:min(i+2, len(hosts))] {
+			list = append(list, call{fmt.Sprint("SameHost ", i, k), func() outcome { return outcome{yes: impl.SameHost(h, other)} }})
+		}
+		for _, n := range someNumbers() {
+			list = append(list, call{fmt.Sprint("AnswerHost ", i, n), func() outcome {
+				next, code := impl.AnswerHost(h, n)
+				if code == impl.ErrFull { // with this code alone there is a host
+					return outcome{text: hostText(next)}
+				}
+				return outcome{text: hostText(next), code: code}
+			}})
+		}
+		for _, c := range []int{minInt, -1, 0, 1, 2, 3, capCount, maxInt} {
+			for _, yes := range []bool{false, true} {
+				list = append(list, call{fmt.Sprint("GrantCap ", i, c, yes), func() outcome {
+					next, code := impl.GrantCap(h, c, yes)
+					return outcome{text: hostText(next), code: code}
+				}})
+			}
+			for k, d := range data {
+				list = append(list, call{fmt.Sprint("HostCall ", i, k, c), func() outcome {
+					next, left, throw, code := impl.HostCall(h, d, c)
+					return outcome{throw: throw, text: hostText(next) + dataText(left), code: code}
+				}})
+			}
+		}
+	}
+	return list
+}
+
+func callsOfFolds() []call {
+	var list []call
+	for i, store := range append(badStores(), filled(storeSize), make([]int, storeSize), make([]int, impl.MaxList+1)) {
+		for k, deeds := range [][]impl.Deed{nil, manyDeeds(20), badDeeds(), someDeeds(maxDeeds), manyDeeds(impl.MaxList), manyDeeds(impl.MaxList + 1)} {
+			list = append(list, call{fmt.Sprint("FoldDeeds ", i, k), func() outcome {
+				folded, code := impl.FoldDeeds(store, deeds)
+				return outcome{text: cellsText(folded), code: code}
+			}})
+		}
+	}
+	return list
+}
+
+// hostText is empty for a zero host.
+func hostText(h impl.Host) string {
+	if isZeroHost(h) {
+		return ""
+	}
+	return fmt.Sprintf("%v %v %v %d %v", h.Granted, h.Store, h.Answers, h.Clock, h.Deeds)
+}
+
+// cellsText makes no difference between an empty list and nil.
+func cellsText(list []int) string {
+	if len(list) == 0 {
+		return ""
+	}
+	return fmt.Sprint(list)
 }
 
 // dataText is empty for zero data.
