@@ -12,7 +12,7 @@ import (
 	"loop.example/g00787/impl"
 )
 
-// outcome has room for the results of any function of chapters 1 to 7; a list
+// outcome has room for the results of any function of chapters 1 to 8; a list
 // of texts, words or cells stands in it as one text, and so do data and host.
 type outcome struct {
 	number  int
@@ -46,7 +46,7 @@ func someTexts() []string {
 }
 
 func allCalls() []call {
-	return slices.Concat(callsOfNumbers(), callsOfTexts(), callsOfTwoCells(), callsOfLines(), callsOfData(), callsOfTwoData(), callsOfDicts(), callsOfPrims(), callsOfHosts(), callsOfFolds())
+	return slices.Concat(callsOfNumbers(), callsOfTexts(), callsOfTwoCells(), callsOfLines(), callsOfData(), callsOfTwoData(), callsOfDicts(), callsOfPrims(), callsOfHosts(), callsOfFolds(), callsOfItems(), callsOfCompilations(), callsOfCode())
 }
 
 func callsOfNumbers() []call {
@@ -279,6 +279,80 @@ func callsOfFolds() []call {
 				folded, code := impl.FoldDeeds(store, deeds)
 				return outcome{text: cellsText(folded), code: code}
 			}})
+		}
+	}
+	return list
+}
+
+func someItemLists() [][]impl.Item {
+	list := [][]impl.Item{nil, {}, slices.Repeat(itemsOf("5"), maxItems), slices.Repeat(itemsOf("THEN"), maxItems+1), make([]impl.Item, maxItems), make([]impl.Item, impl.MaxList), make([]impl.Item, impl.MaxList+1)}
+	for kind := range 15 {
+		list = append(list, []impl.Item{{Kind: kind}}, []impl.Item{{Kind: kind, Value: 1}}, slices.Repeat([]impl.Item{{Kind: kind}}, maxItems))
+	}
+	for _, text := range []string{"THEN IF", "IF w1 ELSE 5 THEN", "BEGIN WHILE DO LOOP REPEAT RECURSE", "IF IF IF IF IF IF IF IF THEN", "BEGIN UNTIL LOOP 5"} {
+		list = append(list, itemsOf(text), append(itemsOf(text), impl.Item{Kind: maxInt, Value: minInt}))
+	}
+	return list
+}
+
+func callsOfItems() []call {
+	var list []call
+	for i, x := range append(badItems(), itemsOf("w1 5 IF RECURSE")...) {
+		list = append(list, call{fmt.Sprint("ItemOK ", i), func() outcome { return outcome{yes: impl.ItemOK(x)} }})
+	}
+	for i, items := range someItemLists() {
+		list = append(list,
+			call{fmt.Sprint("CheckItems ", i), func() outcome {
+				at, code := impl.CheckItems(items)
+				if code == impl.ErrControl { // with this code alone there is an index
+					return outcome{number: at}
+				}
+				return outcome{number: at, code: code}
+			}},
+			call{fmt.Sprint("SizeOf ", i), func() outcome {
+				size, code := impl.SizeOf(items)
+				return outcome{number: size, code: code}
+			}},
+		)
+		for _, place := range append(someNumbers(), len(items)-1, len(items), len(items)+1) {
+			list = append(list, call{fmt.Sprint("OpenAt ", i, place), func() outcome {
+				open, code := impl.OpenAt(items, place)
+				return outcome{text: cellsText(open), code: code}
+			}})
+		}
+	}
+	return list
+}
+
+func callsOfCompilations() []call {
+	var list []call
+	for i, items := range someItemLists() {
+		for _, at := range append(someNumbers(), maxCode-2, maxCode-1, maxCode, maxCode+1) {
+			for _, self := range []int{minInt, -1, 0, 1, wordNumbers, wordNumbers + 1, maxInt} {
+				list = append(list, call{fmt.Sprint("CompileItems ", i, at, self), func() outcome {
+					cells, code := impl.CompileItems(items, at, self)
+					return outcome{text: cellsText(cells), code: code}
+				}})
+			}
+		}
+	}
+	return list
+}
+
+func callsOfCode() []call {
+	var list []call
+	codes := [][]int{nil, {53}, {57}, {57, minInt, 53}, {1, 84, 53}, {minInt}, {maxInt}, someNumbers(), append(slices.Repeat([]int{60}, impl.MaxList-1), 53), make([]int, impl.MaxList+1)}
+	for number := range 63 {
+		codes = append(codes, []int{number}, []int{number, number, 53}, []int{number, 5, 53})
+	}
+	for i, words := range [][]impl.Word{nil, kernelWords(), dictOf(2), dictOf(maxUser), dictOf(maxUser + 1), kernelWords()[1:], make([]impl.Word, impl.MaxList+1)} {
+		for k, code := range codes {
+			for _, at := range []int{minInt, -1, 0, 1, len(code) - 1, len(code), len(code) + 1, maxInt} {
+				list = append(list, call{fmt.Sprint("CodeLines ", i, k, at), func() outcome {
+					lines, problem := impl.CodeLines(words, code, at)
+					return outcome{text: textOf(lines), code: problem}
+				}})
+			}
 		}
 	}
 	return list
