@@ -12,8 +12,9 @@ import (
 	"loop.example/g00787/impl"
 )
 
-// outcome has room for the results of any function of chapters 1 to 8; a list
-// of texts, words or cells stands in it as one text, and so do data and host.
+// outcome has room for the results of any function of chapters 1 to 9; a list
+// of texts, words or cells stands in it as one text, and so do data, host and
+// machine.
 type outcome struct {
 	number  int
 	throw   int
@@ -46,7 +47,7 @@ func someTexts() []string {
 }
 
 func allCalls() []call {
-	return slices.Concat(callsOfNumbers(), callsOfTexts(), callsOfTwoCells(), callsOfLines(), callsOfData(), callsOfTwoData(), callsOfDicts(), callsOfPrims(), callsOfHosts(), callsOfFolds(), callsOfItems(), callsOfCompilations(), callsOfCode())
+	return slices.Concat(callsOfNumbers(), callsOfTexts(), callsOfTwoCells(), callsOfLines(), callsOfData(), callsOfTwoData(), callsOfDicts(), callsOfPrims(), callsOfHosts(), callsOfFolds(), callsOfItems(), callsOfCompilations(), callsOfCode(), callsOfMachines())
 }
 
 func callsOfNumbers() []call {
@@ -353,6 +354,36 @@ func callsOfCode() []call {
 					return outcome{text: textOf(lines), code: problem}
 				}})
 			}
+		}
+	}
+	return list
+}
+
+func callsOfMachines() []call {
+	list := []call{{"NewMachine", func() outcome { return outcome{text: machineText(impl.NewMachine())} }}}
+	machines := slices.Concat(validMachines(), badMachines(), memoryMachines())
+	for i, m := range machines {
+		list = append(list,
+			call{fmt.Sprint("MachineOK ", i), func() outcome { return outcome{yes: impl.MachineOK(m)} }},
+			call{fmt.Sprint("StepMachine ", i), func() outcome {
+				next, throw, code := impl.StepMachine(m)
+				return outcome{throw: throw, text: machineText(next), code: code}
+			}},
+		)
+		for k, other := range machines[:min(i+2, 9)] {
+			list = append(list, call{fmt.Sprint("SameMachine ", i, k), func() outcome { return outcome{yes: impl.SameMachine(m, other)} }})
+		}
+		for _, token := range []int{minInt, -1, 0, 1, 53, 54, 55, 56, 57, 66, 67, 84, 86, len(m.Words), len(m.Words) + 1, maxInt} {
+			list = append(list,
+				call{fmt.Sprint("BeginToken ", i, token), func() outcome {
+					next, throw, code := impl.BeginToken(m, token)
+					return outcome{throw: throw, text: machineText(next), code: code}
+				}},
+				call{fmt.Sprint("RunToken ", i, token), func() outcome {
+					next, throw, steps, code := impl.RunToken(m, token)
+					return outcome{number: steps, throw: throw, text: machineText(next), code: code}
+				}},
+			)
 		}
 	}
 	return list
