@@ -265,7 +265,7 @@ func TestFloorOfEachPrimitive(t *testing.T) {
 		for below := range 3 {
 			for above := range 4 {
 				m := machineOf("4100 2 3"+strings.Repeat(" 4096", above)+"|"+ofCells(below), strings.Repeat(">R ", above)+name+" EXIT")
-				d, want := primResult(withStacks(m.Data, 3, above), name, below)
+				d, want := primResult(movedToBack(m.Data, above), name, below)
 				if want == 0 && len(d.Back) != below {
 					want = -25
 				}
@@ -279,16 +279,13 @@ func TestFloorOfEachPrimitive(t *testing.T) {
 	}
 }
 
-// withStacks moves cells from Stack to Back until size cells are left.
-func withStacks(d impl.Data, size, moved int) impl.Data {
+// movedToBack moves so many cells from Stack to Back.
+func movedToBack(d impl.Data, count int) impl.Data {
 	d = clonedData(d)
-	for range moved {
+	for range count {
 		last := len(d.Stack) - 1
 		d.Back = append(d.Back, d.Stack[last])
 		d.Stack = d.Stack[:last]
-	}
-	if len(d.Stack) != size {
-		panic(len(d.Stack))
 	}
 	return d
 }
