@@ -12,9 +12,9 @@ import (
 	"loop.example/g00787/impl"
 )
 
-// outcome has room for the results of any function of chapters 1 to 9; a list
-// of texts, words or cells stands in it as one text, and so do data, host and
-// machine.
+// outcome has room for the results of any function of chapters 1 to 10; a list
+// of texts, words, cells, items or nodes stands in it as one text, and so do
+// data, host and machine.
 type outcome struct {
 	number  int
 	throw   int
@@ -47,7 +47,7 @@ func someTexts() []string {
 }
 
 func allCalls() []call {
-	return slices.Concat(callsOfNumbers(), callsOfTexts(), callsOfTwoCells(), callsOfLines(), callsOfData(), callsOfTwoData(), callsOfDicts(), callsOfPrims(), callsOfHosts(), callsOfFolds(), callsOfItems(), callsOfCompilations(), callsOfCode(), callsOfMachines())
+	return slices.Concat(callsOfNumbers(), callsOfTexts(), callsOfTwoCells(), callsOfLines(), callsOfData(), callsOfTwoData(), callsOfDicts(), callsOfPrims(), callsOfHosts(), callsOfFolds(), callsOfItems(), callsOfCompilations(), callsOfCode(), callsOfMachines(), callsOfTrees(), callsOfScripts())
 }
 
 func callsOfNumbers() []call {
