@@ -44,7 +44,7 @@ func clonedNodeLists(lists [][]impl.Node) [][]impl.Node {
 
 // memoryTrees are accepted, but for the last ones.
 func memoryTrees() [][]impl.Node {
-	trees := [][]impl.Node{nil, nested(nodesOf("5"), maxDepth, 0), nested(nodesOf("w1 RECURSE"), maxDepth, 7), fives(maxItems)}
+	trees := [][]impl.Node{nil, nested(nodesOf("5"), maxDepth, 0), nested(nodesOf("w1 RECURSE"), maxDepth, 7), nested(nil, maxDepth+1, 2), fives(maxItems)}
 	for _, text := range []string{"w1", "5 RECURSE", "IF()", "IF(|)", "IF(1 2|3 4) 5", "UNTIL(w1) WHILE(|)", "WHILE(1 IF(2|)|3) LOOP(4) +LOOP(5)", "LOOP(+LOOP(IF(IF(w1))))"} {
 		trees = append(trees, nodesOf(text))
 	}

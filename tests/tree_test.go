@@ -255,40 +255,6 @@ func nested(tree []impl.Node, depth, place int) []impl.Node {
 	return tree
 }
 
-func TestTreesUpToMaxDepth(t *testing.T) {
-	for place := range structuresAround(nil) {
-		for depth := range maxDepth + 1 {
-			for _, inside := range []string{"", "5", "w1 RECURSE"} {
-				tree := nested(nodesOf(inside), depth, place)
-				wantItems(t, fmt.Sprint(depth, " structures ", place, " around ", inside), tree)
-				wantItems(t, fmt.Sprint(depth, " structures ", place, " around ", inside, " and others"), slices.Concat(nodesOf("IF()"), tree, nodesOf("LOOP(5)")))
-			}
-		}
-		for _, depth := range []int{maxDepth + 1, maxDepth + 2, 20, 100} {
-			for _, inside := range []string{"", "5", "w1 RECURSE"} {
-				tree := nested(nodesOf(inside), depth, place)
-				wantNoItems(t, fmt.Sprint(depth, " structures ", place, " around ", inside), tree, impl.ErrBad)
-				wantNoItems(t, fmt.Sprint(depth, " structures ", place, " behind others"), append(nodesOf("IF() 5"), tree...), impl.ErrBad)
-			}
-		}
-	}
-}
-
-// TestDeepTreesOfMixedStructures has eight structures, and one more.
-func TestDeepTreesOfMixedStructures(t *testing.T) {
-	count := len(structuresAround(nil))
-	for first := range count {
-		tree := nodesOf("5")
-		for depth := range maxDepth {
-			tree = append(nodesOf("6"), structuresAround(tree)[(first+depth*3)%count])
-		}
-		wantItems(t, fmt.Sprint("eight structures from ", first), tree)
-		for place := range count {
-			wantNoItems(t, fmt.Sprint("nine structures from ", first, ", ", place), nested(tree, 1, place), impl.ErrBad)
-		}
-	}
-}
-
 // badNodes are no nodes of a tree.
 func badNodes() []impl.Node {
 	five := nodesOf("5")
