@@ -116,7 +116,7 @@ func TestFindWordAgainstScan(t *testing.T) {
 
 func lastOf(list []impl.Word, name string) int {
 	for i, x := range slices.Backward(list) {
-		if x.Kind != 3 && upper(x.Name) == upper(name) {
+		if x.Kind != 3 && len(x.Name) == len(name) && upper(x.Name) == upper(name) {
 			return i + 1
 		}
 	}
