@@ -12,7 +12,7 @@ import (
 	"loop.example/g00787/impl"
 )
 
-// outcome has room for the results of any function of chapters 1 to 11; a list
+// outcome has room for the results of any function of chapters 1 to 12; a list
 // of texts, words, cells, items or nodes stands in it as one text, and so do
 // data, host and machine.
 type outcome struct {
@@ -47,7 +47,7 @@ func someTexts() []string {
 }
 
 func allCalls() []call {
-	return slices.Concat(callsOfNumbers(), callsOfTexts(), callsOfTwoCells(), callsOfLines(), callsOfData(), callsOfTwoData(), callsOfDicts(), callsOfPrims(), callsOfHosts(), callsOfFolds(), callsOfItems(), callsOfCompilations(), callsOfCode(), callsOfMachines(), callsOfTrees(), callsOfScripts(), callsOfForths())
+	return slices.Concat(callsOfNumbers(), callsOfTexts(), callsOfTwoCells(), callsOfLines(), callsOfData(), callsOfTwoData(), callsOfDicts(), callsOfPrims(), callsOfHosts(), callsOfFolds(), callsOfItems(), callsOfCompilations(), callsOfCode(), callsOfMachines(), callsOfTrees(), callsOfScripts(), callsOfForths(), callsOfActs(), callsOfSessions(), callsOfReports())
 }
 
 func callsOfNumbers() []call {
